@@ -1,0 +1,1 @@
+"""Rodturns: turning the hinges of a folded rule inside a case."""
