@@ -3,7 +3,8 @@
 import inspect
 import unittest
 
-from rodturns import rules, texts
+from rodturns import cases, foldings, rules, texts, turning
+from rodturns.foldings import Folding
 from rodturns.rules import Aimed, Bound, Held, Rule
 
 
@@ -27,6 +28,11 @@ class InterfaceTest(unittest.TestCase):
             self.assertEqual(made.__module__, "rodturns.rules")
         for function in [texts.written, texts.read]:
             self.assertEqual(function.__module__, "rodturns.texts")
+        self.assertEqual(Folding.__module__, "rodturns.foldings")
+        for function in [cases.foldings, cases.fits, cases.shortest]:
+            self.assertEqual(function.__module__, "rodturns.cases")
+        for name in ["turns", "is_turning", "reach", "is_closed", "many_turnings", "direct"]:
+            self.assertEqual(getattr(turning, name).__module__, "rodturns.turning")
 
     def test_members_of_rule(self):
         own = vars(Rule)
@@ -38,6 +44,15 @@ class InterfaceTest(unittest.TestCase):
         self.assertEqual(arguments(own["allows"]), ["self", "ways"])
         for made in [Rule, Held, Aimed, Bound]:
             self.assertEqual(arguments(vars(made)["options"]), ["self"])
+
+    def test_members_of_folding(self):
+        own = vars(Folding)
+        for name in ["ways", "places", "span"]:
+            self.assertIsInstance(own[name], property)
+            self.assertEqual(own[name].fset is not None, name == "ways")
+        self.assertEqual(arguments(own["assign"]), ["self", "ways"])
+        self.assertEqual(arguments(own["turn"]), ["self", "hinge"])
+        self.assertEqual(arguments(own["turned"]), ["self", "*hinges"])
 
     def test_arguments(self):
         self.assertEqual(arguments(Rule), ["*rods"])
@@ -51,6 +66,20 @@ class InterfaceTest(unittest.TestCase):
         self.assertEqual(arguments(rules.flipped), ["rule"])
         self.assertEqual(arguments(texts.written), ["rule"])
         self.assertEqual(arguments(texts.read), ["text"])
+        self.assertEqual(arguments(Folding), ["rule", "ways"])
+        self.assertEqual(arguments(cases.foldings), ["rule", "c"])
+        self.assertEqual(arguments(cases.fits), ["rule", "c"])
+        self.assertEqual(arguments(cases.shortest), ["rule"])
+
+    def test_arguments_of_turning(self):
+        ends = ["rule", "c", "first", "last"]
+        still = [("still", ())]
+        self.assertEqual(arguments(turning.turns), ends + still)
+        self.assertEqual(arguments(turning.is_turning), ends + ["thing"] + still)
+        self.assertEqual(arguments(turning.reach), ["rule", "c", "first"] + still)
+        self.assertEqual(arguments(turning.is_closed), ["rule", "c", "thing"] + still)
+        self.assertEqual(arguments(turning.many_turnings), ends)
+        self.assertEqual(arguments(turning.direct), ends)
 
 
 if __name__ == "__main__":

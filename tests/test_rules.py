@@ -4,7 +4,7 @@ import unittest
 
 from rodturns.errors import LockError, RodsError, RuleError, WaysError
 from rodturns.rules import Aimed, Bound, Held, Rule, flipped
-from tests.values import NO_INTEGERS, NO_TEXTS, all_choices, all_ways
+from tests.values import NO_INTEGERS, NO_RULES, NO_TEXTS, all_choices, all_ways, is_allowed
 
 ALL_CLASSES = [Rule, Held, Aimed, Bound]
 
@@ -17,18 +17,6 @@ def all_bounds(*rods):
             given = {"straight": straight, "folded": folded, "right": right, "left": left}
             found.append((Bound(*rods, **given), given))
     return found
-
-
-def is_allowed(ways, straight=(), folded=(), right=(), left=()):
-    """Whether ways agree with the options, letter by letter."""
-    for at in range(len(ways) - 1):
-        state = "straight" if ways[at:at + 2] in ("LL", "RR") else "folded"
-        if at + 1 in straight and state != "straight" or at + 1 in folded and state != "folded":
-            return False
-    for at, letter in enumerate(ways):
-        if at + 1 in right and letter != "R" or at + 1 in left and letter != "L":
-            return False
-    return True
 
 
 class RodsTest(unittest.TestCase):
@@ -313,7 +301,7 @@ class FlippedTest(unittest.TestCase):
         self.assertEqual(flipped(Own(1, 2, 3, folded=(1,))).options()["folded"], (2,))
 
     def test_no_rule(self):
-        for thing in NO_INTEGERS + NO_TEXTS + [Rule, Bound, [Rule(1)], (Rule(1),), (3, 1, 3), [3, 1, 3], "3-1-3"]:
+        for thing in NO_RULES:
             with self.subTest(thing=thing), self.assertRaises(RuleError):
                 flipped(thing)
 
