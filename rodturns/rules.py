@@ -131,9 +131,14 @@ def is_ways(thing, many):
     return isinstance(thing, str) and len(thing) == many and all([letter in "LR" for letter in thing])
 
 
+def is_straight(ways, hinge):
+    """Whether a hinge is straight in a folding; otherwise it is folded."""
+    return ways[hinge - 1] == ways[hinge]
+
+
 def keeps_hinges(ways, straight, folded):
     """Whether these hinges are straight, and those folded, in a folding."""
-    return all([ways[k - 1] == ways[k] for k in straight]) and all([ways[k - 1] != ways[k] for k in folded])
+    return all([is_straight(ways, k) for k in straight]) and not any([is_straight(ways, k) for k in folded])
 
 
 def keeps_rods(ways, right, left):

@@ -3,7 +3,7 @@
 from rodturns.cases import check_case, check_taken, foldings, takes
 from rodturns.errors import HingeError
 from rodturns.foldings import exchanged_behind, is_hinge
-from rodturns.rules import check_rule
+from rodturns.rules import check_rule, is_straight
 
 
 def turns(rule, c, first, last, *, still=()):
@@ -157,4 +157,4 @@ def one_step_nearer(left, hinges, many):
 
 def many_changed(first, last):
     """How many hinges have another state in the last folding than in the first one."""
-    return len([k for k in range(1, len(first)) if (first[k - 1] == first[k]) != (last[k - 1] == last[k])])
+    return len([k for k in range(1, len(first)) if is_straight(first, k) != is_straight(last, k)])

@@ -3,8 +3,9 @@
 import inspect
 import unittest
 
-from rodturns import cases, foldings, rules, texts, turning
+from rodturns import cases, joining, pieces, rules, texts, turning
 from rodturns.foldings import Folding
+from rodturns.hands import Hand
 from rodturns.rules import Aimed, Bound, Held, Rule
 
 
@@ -33,6 +34,11 @@ class InterfaceTest(unittest.TestCase):
             self.assertEqual(function.__module__, "rodturns.cases")
         for name in ["turns", "is_turning", "reach", "is_closed", "many_turnings", "direct"]:
             self.assertEqual(getattr(turning, name).__module__, "rodturns.turning")
+        for function in [joining.joining, joining.is_joining]:
+            self.assertEqual(function.__module__, "rodturns.joining")
+        for name in ["pieces", "stiff", "farthest", "split", "settled"]:
+            self.assertEqual(getattr(pieces, name).__module__, "rodturns.pieces")
+        self.assertEqual(Hand.__module__, "rodturns.hands")
 
     def test_members_of_rule(self):
         own = vars(Rule)
@@ -53,6 +59,20 @@ class InterfaceTest(unittest.TestCase):
         self.assertEqual(arguments(own["assign"]), ["self", "ways"])
         self.assertEqual(arguments(own["turn"]), ["self", "hinge"])
         self.assertEqual(arguments(own["turned"]), ["self", "*hinges"])
+
+    def test_members_of_hand(self):
+        own = vars(Hand)
+        for name in ["ways", "case", "changes"]:
+            self.assertIsInstance(own[name], property)
+            self.assertEqual(own[name].fset is not None, name != "changes")
+        self.assertEqual(arguments(own["assign"]), ["self", "ways"])
+        self.assertEqual(arguments(own["take"]), ["self", "case"])
+        self.assertEqual(arguments(own["turn"]), ["self", "hinge"])
+        self.assertEqual(arguments(own["go_to"]), ["self", "ways"])
+        for name in ["go", "look"]:
+            self.assertEqual(arguments(own[name]), ["self", "*hinges"])
+        for name in ["undo", "trying"]:
+            self.assertEqual(arguments(own[name]), ["self"])
 
     def test_arguments(self):
         self.assertEqual(arguments(Rule), ["*rods"])
@@ -80,6 +100,27 @@ class InterfaceTest(unittest.TestCase):
         self.assertEqual(arguments(turning.is_closed), ["rule", "c", "thing"] + still)
         self.assertEqual(arguments(turning.many_turnings), ends)
         self.assertEqual(arguments(turning.direct), ends)
+
+    def test_arguments_of_joining_pieces_and_hands(self):
+        self.assertEqual(arguments(joining.joining), ["rule", "first", "last"])
+        self.assertEqual(arguments(joining.is_joining), ["rule", "first", "last", "thing"])
+        self.assertEqual(arguments(pieces.pieces), ["rule", "c"])
+        self.assertEqual(arguments(pieces.stiff), ["rule", "c", "ways"])
+        self.assertEqual(arguments(pieces.farthest), ["rule", "c", "ways"])
+        self.assertEqual(arguments(pieces.split), ["rule", "c"])
+        self.assertEqual(arguments(pieces.settled), ["rule"])
+        self.assertEqual(arguments(Hand), ["rule", "c", "ways"])
+
+    def test_arguments_by_name(self):
+        rule = Rule(3, 1, 3)
+        self.assertEqual(joining.joining(rule=rule, first="RRL", last="RRL"), (4, (), None))
+        self.assertIs(joining.is_joining(rule=rule, first="RRL", last="RRL", thing=(4, (), None)), True)
+        self.assertEqual(pieces.stiff(rule=rule, c=4, ways="RRL"), (1, 2))
+        hand = Hand(rule=rule, c=4, ways="RRL")
+        hand.assign(ways="RLL")
+        hand.take(case=5)
+        hand.turn(hinge=2)
+        self.assertEqual(hand.go_to(ways="RRL"), (1,))
 
 
 if __name__ == "__main__":

@@ -108,3 +108,41 @@ def all_stills(many):
     """Each tuple of hinges of so many rods in ascending order."""
     hinges = range(1, many)
     return [still for size in range(many) for still in combinations(hinges, size)]
+
+
+def plain_reach(taken, first):
+    """All foldings to which turnings lead from first, in ascending order."""
+    return tuple(sorted(shortest_turnings(taken, range(1, len(first)), first)))
+
+
+def spans_of(rule):
+    """The spans of all foldings that a rule allows, in ascending order, each once."""
+    return sorted({plain_span(rule.rods, ways) for ways in plain_foldings(rule, 480)})
+
+
+def error_of(function, *arguments):
+    """The class of the exception that a call raises, or None."""
+    try:
+        function(*arguments)
+    except Exception as raised:
+        return type(raised)
+    return None
+
+
+NO_WAYS = NO_TEXTS + ["", "L" * 13, "RL" * 7, "rrl", "RRX", "RR L", "L" * 300, ["R", "R", "L"], ("R", "R", "L")]
+
+# Rules with 12 rods, free ones and ones with locks and aims.
+TWELVE_RULES = [
+    Rule(*range(1, 13)), Rule(*[40] * 12), Rule(*[3, 1, 4, 1, 5, 9, 2, 6, 5, 3, 5, 8]),
+    Held(9, 4, 7, 7, 2, 8, 3, 5, 9, 1, 6, 6, straight=(4,), folded=(7,)),
+    Aimed(40, 1, 39, 2, 38, 3, 37, 4, 36, 5, 35, 6, right=(1,), left=(12,)),
+    Bound(5, 8, 3, 9, 7, 2, 6, 4, 10, 1, 5, 7, straight=(2,), folded=(9,), left=(6,)),
+]
+
+# Rules many of whose foldings are joined only in a case longer than both spans, so that shorter cases have a split.
+NARROW_RULES = [
+    Rule(5, 1, 1, 5), Rule(4, 1, 5, 1), Rule(3, 1, 1, 2, 5), Rule(4, 1, 1, 1, 4), Held(5, 1, 1, 5, 2, folded=(4,)),
+    Held(5, 1, 1, 5, straight=(2,)), Held(4, 1, 4, 1, 3, straight=(3,)), Aimed(4, 1, 1, 4, 1, right=(2,)),
+    Aimed(1, 4, 1, 1, 4, left=(1,)), Bound(4, 1, 1, 1, 4, folded=(2,), right=(1,)),
+    Bound(5, 1, 1, 5, 2, folded=(4,), left=(3,)),
+]
